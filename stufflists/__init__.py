@@ -1,0 +1,1 @@
+"""Stufflists: the lists of stuffs on wares, and what can be read of them."""
