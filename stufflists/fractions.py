@@ -60,6 +60,19 @@ def is_fraction(thing):
     return common_measure(abs(top), bottom) == 1
 
 
+def is_from_nought(thing):
+    """Whether the thing, whatever it is, is a FRACTION from 0 on."""
+    return is_fraction(thing) and thing[0] >= 0
+
+
+def total(some):
+    """The sum of a list of FRACTIONS."""
+    found = (0, 1)
+    for one in some:
+        found = plus(found, one)
+    return found
+
+
 def figures(number):
     """The figures of a whole number from 0 on."""
     # Python refuses to write a number of some thousand figures at once,
@@ -78,3 +91,30 @@ def fraction_text(one):
     sign = "-" if top < 0 else ""
     below = "" if bottom == 1 else "/" + figures(bottom)
     return sign + figures(abs(top)) + below
+
+
+def is_figures(text):
+    """Whether a text is made of figures, one at least."""
+    return len(text) > 0 and all(["0" <= sign <= "9" for sign in text])
+
+
+def whole_in(text):
+    """The whole number that is written with these figures."""
+    # In groups, as they are written: Python refuses to read some thousand figures at once, too.
+    first = len(text) % 60
+    number = int("0" + text[:first])
+    for at in range(first, len(text), 60):
+        number = number * 10 ** 60 + int(text[at:at + 60])
+    return number
+
+
+def fraction_in(text):
+    """The FRACTION whose text this is, sign by sign, or None."""
+    above, slash, below = text.removeprefix("-").partition("/")
+    if slash == "":
+        below = "1"
+    if not is_figures(above) or not is_figures(below):
+        return None
+    sign = -1 if text.startswith("-") else 1
+    made = (sign * whole_in(above), whole_in(below))
+    return made if is_fraction(made) and fraction_text(made) == text else None

@@ -156,6 +156,16 @@ class Label:
         return f"Label({row_text(self.listed, self.words)})"
 
 
+def holders(label):
+    """() and the paths of all places that hold a LIST, in order: each stands for its LIST."""
+    return [()] + [path for path in label.paths() if label.many_in(path) > 0]
+
+
+def paths_in(label, holder):
+    """The paths of the places in the LIST that stands at (), or inside a place."""
+    return [holder + (at,) for at in range(label.many_in(holder))]
+
+
 def check_told(label, told):
     """Refuse what is no dict from paths of the label to STRETCHES."""
     if not isinstance(told, dict):

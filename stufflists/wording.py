@@ -1,6 +1,8 @@
-"""How LISTS, told STRETCHES and words are written in a label's row [9]."""
+"""How LISTS, told STRETCHES and words are written in a label's row and lines [9, 10]."""
 
 from stufflists.fractions import fraction_text
+
+WORDS_AHEAD = "may hold "
 
 
 def told_text(told):
@@ -11,12 +13,16 @@ def told_text(told):
     return fraction_text(least) + " to " + fraction_text(most)
 
 
+def entry_text(name, told):
+    """The text of a name and of what is told of it, None or a STRETCH."""
+    return name if told is None else name + " " + told_text(told)
+
+
 def place_text(place):
     """The text of a PLACE, with what is inside it."""
     name, told, inside = place
-    share = "" if told is None else " " + told_text(told)
     within = "" if inside is None else " (" + list_text(inside) + ")"
-    return name + share + within
+    return entry_text(name, told) + within
 
 
 def list_text(places):
@@ -24,8 +30,13 @@ def list_text(places):
     return ", ".join([place_text(place) for place in places])
 
 
+def words_text(words):
+    """The text of some words that a ware may hold."""
+    return WORDS_AHEAD + ", ".join(words)
+
+
 def row_text(places, words):
     """The ROW of the label of this LIST and these words."""
     if len(words) == 0:
         return list_text(places)
-    return list_text(places) + "; may hold " + ", ".join(words)
+    return list_text(places) + "; " + words_text(words)

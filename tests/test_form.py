@@ -14,11 +14,32 @@ INTERFACE = {
                "NoWish", "TextError", "NoRow", "NoLine", "NoDeed", "HouseError", "NoWare", "Ring"),
     "fractions": ("fraction", "plus", "minus", "times", "over", "is_less", "is_fraction", "fraction_text"),
     "labels": ("is_name", "is_stretch", "Label", "retold"),
+    "rowtexts": ("read_row",),
+    "linetexts": ("lines_of", "read_lines"),
+    "recipes": ("Recipe",),
+    "listing": ("label_of", "making_of", "flat"),
+    "makings": ("is_making", "mixed", "cost"),
+    "papers": ("shown",),
+    "grids": (),
+}
+
+ARGUMENTS = {
+    ("rowtexts", "read_row"): "text",
+    ("linetexts", "lines_of"): "label",
+    ("linetexts", "read_lines"): "text",
+    ("listing", "label_of"): "recipe, tell=None, near=0, may=None",
+    ("listing", "making_of"): "recipe",
+    ("listing", "flat"): "recipe",
+    ("makings", "is_making"): "label, thing",
+    ("makings", "mixed"): "one, other, part",
+    ("makings", "cost"): "label, prices, making",
+    ("papers", "shown"): "label, prices, paper",
 }
 
 METHODS = {
     ("labels", "Label"): ("__init__", "places", "may", "paths", "name_at", "told_at", "many_in",
                           "__eq__", "__len__", "__str__", "__repr__"),
+    ("recipes", "Recipe"): ("__init__", "parts", "cooked", "water", "whole", "left", "__eq__", "__len__"),
 }
 
 BARRED_WORDS = ("type", "typing", "typing_extensions", "enum", "Enum", "IntEnum", "StrEnum", "Flag", "IntFlag",
@@ -31,7 +52,8 @@ BUILTINS = {"len", "range", "enumerate", "zip", "min", "max", "sum", "abs", "sor
 
 METHODS_OF_VALUES = {"append", "clear", "copy", "count", "endswith", "extend", "find", "get", "index", "insert",
                      "isdigit", "items", "join", "keys", "pop", "remove", "replace", "reverse", "setdefault", "split",
-                     "startswith", "strip", "update", "values", "zfill", "add", "discard", "sort", "partition"}
+                     "startswith", "strip", "update", "values", "zfill", "add", "discard", "partition", "lstrip",
+                     "removeprefix", "removesuffix"}
 
 
 def sources():
@@ -64,6 +86,14 @@ class Interface(unittest.TestCase):
             found = defined(defined(files[file + ".py"].body)[name].body)
             for method in methods:
                 self.assertIn(method, found, name)
+
+    def test_each_function_has_its_arguments(self):
+        files = dict(trees())
+        for (file, name), arguments in ARGUMENTS.items():
+            self.assertEqual(ast.unparse(defined(files[file + ".py"].body)[name].args), arguments)
+        made = defined(defined(files["recipes.py"].body)["Recipe"].body)
+        self.assertEqual(ast.unparse(made["__init__"].args), "self, parts, cooked=None, water='water'")
+        self.assertEqual(ast.unparse(made["left"].args), "self, name")
 
 
 class Files(unittest.TestCase):
@@ -133,6 +163,53 @@ class Rules(unittest.TestCase):
         for file, node in self.nodes(ast.Call):
             if isinstance(node.func, ast.Attribute):
                 self.assertIn(node.func.attr, METHODS_OF_VALUES | own, file)
+
+    def test_each_import_names_the_file_that_defines_it(self):
+        files = dict(trees())
+        for file, node in self.nodes(ast.ImportFrom):
+            body = files[node.module.removeprefix("stufflists.") + ".py"].body
+            known = set(defined(body)) | {row.targets[0].id for row in body if isinstance(row, ast.Assign)}
+            self.assertLessEqual({name.name for name in node.names}, known, file)
+            self.assertEqual({name.asname for name in node.names}, {None}, file)
+
+    def test_no_two_files_import_from_each_other(self):
+        above = {}
+        for file, node in self.nodes(ast.ImportFrom):
+            above.setdefault(file, set()).add(node.module.removeprefix("stufflists.") + ".py")
+        for file in above:
+            found, new = set(), set(above[file])
+            while new:
+                found |= new
+                new = set().union(*(above.get(other, set()) for other in new)) - found
+            self.assertNotIn(file, found)
+
+    def test_each_import_is_used(self):
+        for file, tree in trees():
+            used = {node.id for node in ast.walk(tree) if isinstance(node, ast.Name)}
+            for node in ast.walk(tree):
+                if isinstance(node, ast.ImportFrom):
+                    self.assertLessEqual({name.name for name in node.names}, used, file)
+
+    def test_no_local_name_is_that_of_a_class_or_an_import(self):
+        for file, tree in trees():
+            taken = {name.name for node in tree.body if isinstance(node, ast.ImportFrom) for name in node.names}
+            taken |= {node.name for node in tree.body if isinstance(node, ast.ClassDef)}
+            for node in ast.walk(tree):
+                if isinstance(node, ast.Name) and isinstance(node.ctx, ast.Store):
+                    self.assertNotIn(node.id, taken, file)
+                if isinstance(node, ast.arg):
+                    self.assertNotIn(node.arg, taken, file)
+                    self.assertNotIn(node.arg, BUILTINS, file)
+
+    def test_no_generator_expressions(self):
+        # Where a class has __eq__, most of what takes one takes a list alone.
+        self.assertEqual(list(self.nodes(ast.GeneratorExp, ast.Yield, ast.YieldFrom)), [])
+
+    def test_powers_are_literal(self):
+        for file, node in self.nodes(ast.BinOp):
+            if isinstance(node.op, ast.Pow):
+                self.assertIsInstance(node.right, ast.Constant, file)
+                self.assertLessEqual(node.right.value, 64, file)
 
     def test_no_name_is_a_method_and_an_attribute(self):
         methods, attributes = set(), set()

@@ -4,7 +4,8 @@ import unittest
 from fractions import Fraction
 
 from stufflists.errors import NoFraction, StuffError
-from stufflists.fractions import fraction, fraction_text, is_fraction, is_less, minus, over, plus, times
+from stufflists.fractions import (fraction, fraction_in, fraction_text, is_fraction, is_from_nought, is_less, minus,
+                                  over, plus, times, total)
 
 LONG = 98765432109876543210
 OTHER_LONG = 12345678901234567891
@@ -164,6 +165,34 @@ class Texts(unittest.TestCase):
         for sign in text:
             value = 10 * value + int(sign)
         return value
+
+
+class TextsRead(unittest.TestCase):
+    def test_read_back(self):
+        for one in SOME:
+            self.assertEqual(fraction_in(fraction_text(one)), one)
+        for power in (59, 60, 61, 119, 120, 121, 6000):
+            for one in ((10 ** power, 1), (-1, 10 ** power + 7), (10 ** power + 1, 10 ** power)):
+                self.assertEqual(fraction_in(fraction_text(one)), one)
+
+    def test_no_texts_of_fractions(self):
+        for text in ("", "-", "/", "-/", "1/", "/2", "-0", "00", "01", "1/02", "2/4", "3/1", "0/1", "0/2", "1/0", "0/0",
+                     "1/-2", "--1", "+1", " 1", "1 ", "1/ 2", "1 /2", "1/2/3", "1//2", "1.0", "1e2", "1_0", "x", "1\n",
+                     "\u0661", "\u00b2", "1-", "-1-", "1/2-"):
+            self.assertIsNone(fraction_in(text), text)
+
+
+class Sums(unittest.TestCase):
+    def test_of_none_and_some(self):
+        self.assertEqual(total([]), (0, 1))
+        self.assertEqual(total([(1, 2), (1, 3), (-1, 6)]), (2, 3))
+        self.assertEqual(total(SOME), as_tuple(sum((Fraction(*one) for one in SOME), Fraction(0))))
+
+    def test_from_nought_on(self):
+        for one in SOME:
+            self.assertIs(is_from_nought(one), one[0] >= 0)
+        for thing in (None, 0, 1, True, (2, 4), (0, 2), (True, 1), [1, 2], "1", (1, -1)):
+            self.assertIs(is_from_nought(thing), False)
 
 
 if __name__ == "__main__":
