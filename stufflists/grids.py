@@ -105,14 +105,17 @@ class Grid:
 
 
 def first_rows(rows, wants):
-    """The rows of a grid, none of which must come to less than 0, and the number by which each was multiplied."""
+    """The rows of a grid, none of which must come to less than 0, and the number by which each was multiplied.
+
+    rows are lists of FRACTIONS, wants whole numbers.
+    """
     made, scales = [], []
     for at, row in enumerate(rows):
-        numbers, scale = in_whole_numbers(list(row) + [wants[at]])
-        if numbers[-1] < 0:
+        numbers, scale = in_whole_numbers(row)
+        if wants[at] < 0:
             numbers, scale = turned(numbers), -scale
         known = [1 if at == other else 0 for other in range(len(rows))]
-        made.append(numbers[:-1] + known + numbers[-1:])
+        made.append(numbers + known + [wants[at] * scale])
         scales.append(scale)
     return made, scales
 
@@ -131,7 +134,9 @@ def least_corner(rows, wants, costs):
     for each row, by the rows come in no column to more than its cost, and by the wants to what the numbers cost. Or
     ("never", worths): these by the rows come in no column to more than 0, but by the wants to more than 0.
     """
-    made, scales = first_rows(rows, wants)
+    # All wants are multiplied alike, and not each with its row: of many figures, they would make all numbers long.
+    fills, wanted = in_whole_numbers(wants)
+    made, scales = first_rows(rows, fills)
     prices, scale = in_whole_numbers(costs)
     many = len(costs)
     grid = Grid(made, [lacking(made, many), prices + [0] * (len(rows) + 1)], many)
@@ -141,4 +146,5 @@ def least_corner(rows, wants, costs):
         return ("never", [times(plus((1, 1), often), (by, 1)) for often, by in zip(grid.mixing(0), scales)])
     grid.clear_own()
     grid.go_down(1)
-    return ("least", grid.numbers(), [times(often, fraction(by, scale)) for often, by in zip(grid.mixing(1), scales)])
+    numbers = [times(number, (1, wanted)) for number in grid.numbers()]
+    return ("least", numbers, [times(often, fraction(by, scale)) for often, by in zip(grid.mixing(1), scales)])

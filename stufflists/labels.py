@@ -73,6 +73,11 @@ def check_places(places):
     check_list(places, (), [])
 
 
+def are_names(thing):
+    """Whether the thing, whatever it is, is a list of NAMES, perhaps of none."""
+    return isinstance(thing, (list, tuple)) and all([is_name(name) for name in thing])
+
+
 def check_names(names):
     """Refuse what is no list of NAMES."""
     if not isinstance(names, (list, tuple)):

@@ -3,7 +3,7 @@
 from fractions import Fraction
 from random import Random
 
-from stufflists.labels import Label
+from stufflists.labels import Label, retold
 from stufflists.recipes import Recipe
 
 FIFTH = ((1, 5), (1, 4))
@@ -94,3 +94,69 @@ def drawn_recipe_of(rng, budget, deep, around):
 def drawn_recipe(seed):
     rng = Random(seed)
     return drawn_recipe_of(rng, [rng.randint(1, 12)], 1, [])
+
+
+def bare_label(rng, most=12, deep=4):
+    """A label with nothing told."""
+    places = drawn_places(rng, [rng.randint(1, most)], 5 - deep, [], 0)
+    return Label(places, rng.sample(LETTERS, rng.choice((0, 0, 1, 3))))
+
+
+def drawn_shares(rng, label, holder, whole, found):
+    """Falling shares for the places of one LIST, and those inside them, put into the dict found."""
+    weights = sorted((rng.randint(0, 6) for _ in range(label.many_in(holder))), reverse=True)
+    if sum(weights) == 0:
+        weights[0] = 1
+    for at, weight in enumerate(weights):
+        path = holder + (at,)
+        found[path] = as_tuple(whole * Fraction(weight, sum(weights)))
+        if label.many_in(path) > 0:
+            drawn_shares(rng, label, path, Fraction(*found[path]), found)
+
+
+def drawn_making(rng, label):
+    """A making of a label with nothing told."""
+    found = {}
+    drawn_shares(rng, label, (), Fraction(1), found)
+    return found
+
+
+def around_share(rng, share, wide):
+    """A stretch in which the share lies, at an end of it or not."""
+    share = Fraction(*share)
+    least = max(Fraction(0), share - wide * Fraction(rng.randint(0, 4), 4))
+    most = min(Fraction(1), share + wide * Fraction(rng.randint(0, 4), 4))
+    return (as_tuple(least), as_tuple(most))
+
+
+def told_label(rng, tell, wide=Fraction(1, 10), most=12):
+    """A label with stretches told around a making, each with the chance tell, and that making."""
+    label = bare_label(rng, most)
+    making = drawn_making(rng, label)
+    told = {path: around_share(rng, making[path], wide) for path in label.paths() if rng.random() < tell}
+    return retold(label, told), making
+
+
+def shaken_label(rng, wide=Fraction(1, 10)):
+    """A label that tells most shares, each around another making: it can have none at all."""
+    label = bare_label(rng)
+    makings = [drawn_making(rng, label) for _ in range(2)]
+    told = {path: around_share(rng, rng.choice(makings)[path], wide) for path in label.paths() if rng.random() < 0.8}
+    return retold(label, told)
+
+
+def drawn_prices(rng, label, chance=0.6, figures=1):
+    """Prices above and below 0; with a chance of 0 none, of 1 for all places."""
+    most = 10 ** figures - 1
+    return {path: as_tuple(Fraction(rng.randint(-most, most), rng.randint(1, most)))
+            for path in label.paths() if rng.random() < chance}
+
+
+def weighed(text):
+    """The parts of a ware that a text tells: `rye 2 water 1/2`."""
+    words = text.split()
+    return [(name, as_tuple(Fraction(weight))) for name, weight in zip(words[::2], words[1::2])]
+
+
+def labels_of(house):
+    return {name: house.label(name) for name in house.wares()}

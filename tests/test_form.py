@@ -21,6 +21,14 @@ INTERFACE = {
     "makings": ("is_making", "mixed", "cost"),
     "papers": ("shown",),
     "grids": (),
+    "leasts": ("least",),
+    "spreads": ("share_of", "spread"),
+    "clashes": ("clash",),
+    "pairs": ("stuffs_of", "amounts", "one_making"),
+    "harms": ("is_of", "harm"),
+    "tells": ("fewest",),
+    "house": ("House",),
+    "desk": ("Desk",),
 }
 
 ARGUMENTS = {
@@ -34,12 +42,38 @@ ARGUMENTS = {
     ("makings", "mixed"): "one, other, part",
     ("makings", "cost"): "label, prices, making",
     ("papers", "shown"): "label, prices, paper",
+    ("leasts", "least"): "label, prices",
+    ("spreads", "share_of"): "label, names, making",
+    ("spreads", "spread"): "label, names",
+    ("clashes", "clash"): "label",
+    ("pairs", "stuffs_of"): "label",
+    ("pairs", "amounts"): "label, making",
+    ("pairs", "one_making"): "one, other",
+    ("harms", "is_of"): "kinds, one, other",
+    ("harms", "harm"): "label, names, kinds=None, limit=None",
+    ("tells", "fewest"): "label, making, wish",
 }
 
 METHODS = {
     ("labels", "Label"): ("__init__", "places", "may", "paths", "name_at", "told_at", "many_in",
                           "__eq__", "__len__", "__str__", "__repr__"),
     ("recipes", "Recipe"): ("__init__", "parts", "cooked", "water", "whole", "left", "__eq__", "__len__"),
+    ("house", "House"): ("__init__", "put", "drop", "recipe", "label", "uses", "wares", "__len__"),
+    ("desk", "Desk"): ("__init__", "say"),
+}
+
+METHOD_ARGUMENTS = {
+    ("recipes", "Recipe", "__init__"): "self, parts, cooked=None, water='water'",
+    ("recipes", "Recipe", "left"): "self, name",
+    ("house", "House", "__init__"): "self",
+    ("house", "House", "put"): "self, name, parts, cooked=None, tell=None, near=0, may=None",
+    ("house", "House", "drop"): "self, name",
+    ("house", "House", "recipe"): "self, name",
+    ("house", "House", "label"): "self, name",
+    ("house", "House", "uses"): "self, name",
+    ("house", "House", "wares"): "self",
+    ("desk", "Desk", "__init__"): "self",
+    ("desk", "Desk", "say"): "self, row",
 }
 
 BARRED_WORDS = ("type", "typing", "typing_extensions", "enum", "Enum", "IntEnum", "StrEnum", "Flag", "IntFlag",
@@ -91,9 +125,9 @@ class Interface(unittest.TestCase):
         files = dict(trees())
         for (file, name), arguments in ARGUMENTS.items():
             self.assertEqual(ast.unparse(defined(files[file + ".py"].body)[name].args), arguments)
-        made = defined(defined(files["recipes.py"].body)["Recipe"].body)
-        self.assertEqual(ast.unparse(made["__init__"].args), "self, parts, cooked=None, water='water'")
-        self.assertEqual(ast.unparse(made["left"].args), "self, name")
+        for (file, name, method), arguments in METHOD_ARGUMENTS.items():
+            made = defined(defined(files[file + ".py"].body)[name].body)
+            self.assertEqual(ast.unparse(made[method].args), arguments)
 
 
 class Files(unittest.TestCase):
@@ -197,6 +231,7 @@ class Rules(unittest.TestCase):
             for node in ast.walk(tree):
                 if isinstance(node, ast.Name) and isinstance(node.ctx, ast.Store):
                     self.assertNotIn(node.id, taken, file)
+                    self.assertNotIn(node.id, BUILTINS, file)
                 if isinstance(node, ast.arg):
                     self.assertNotIn(node.arg, taken, file)
                     self.assertNotIn(node.arg, BUILTINS, file)
