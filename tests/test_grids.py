@@ -4,10 +4,11 @@ import unittest
 from fractions import Fraction
 from itertools import combinations
 from random import Random
+from unittest import mock
 
 from samples import LETTERS, as_tuple, drawn_label, drawn_recipe
 
-from stufflists.grids import least_corner
+from stufflists.grids import Grid, least_corner
 from stufflists.labels import Label
 from stufflists.listing import label_of, making_of
 from stufflists.makings import cost, is_making, mixed
@@ -84,6 +85,25 @@ class Least(Grids):
         # By other ways than the first number that gains one would go round here for ever.
         rows = read("1 0 0 1/4 -8 -1 9", "0 1 0 1/2 -12 -1/2 3", "0 0 1 0 0 1 0")
         self.assertLeast(rows, *read("0 0 1", "0 0 0 -3/4 20 -1/2 6"), "-5/4")
+
+    def test_no_corner_is_come_to_again(self):
+        # Of alike rows by that of the last own number, or by that which stands first or last, one would go round for ever.
+        for rows, costs in (
+                (read("2 4 0 0 4 -2 1", "-2 0 -2 -3 0 -2 4", "1 2 4 4 -4 1 2", "1 1 1 1 1 1 1"), "0 2 -2 0 -2 -3 -4"),
+                (read("-3 -4 -4 -3 3 0 0", "1 -1 4 3 3 4 -4", "2 -1 -2 -3 3 -1 2", "1 1 1 1 1 1 1"), "3 3 -1 4 -1 2 -3"),
+                (read("-3 -4 -1 0 -3 1", "-2 -1 3 0 -2 3", "-4 1 0 -1 1 1", "1 1 1 1 1 1"), "-2 -3 2 3 -1 3"),
+                (read("3 -2 3 -3 4 -2 -1", "3 -3 0 -4 -2 4 4", "-4 -4 -1 -4 0 -2 0", "1 1 1 1 1 1 1"), "2 0 1 -3 -2 4 1")):
+            turns = []
+
+            def counted(grid, at, column):
+                turns.append(column)
+                self.assertLess(len(turns), 100)
+                turn_to(grid, at, column)
+
+            turn_to = Grid.turn_to
+            with mock.patch.object(Grid, "turn_to", counted):
+                word = asked(rows, *read("0 0 0 1", costs))[0]
+            (self.assertLeast if word == "least" else self.assertNever)(rows, *read("0 0 0 1", costs))
 
     def test_numbers_of_many_figures(self):
         big = Fraction(10 ** 20 - 1, 10 ** 19 + 7)
